@@ -1,0 +1,1 @@
+"""Squares filled by rules."""
