@@ -1,4 +1,4 @@
-"""The rules of LANGUAGE.md that can be read off the package's files without running them."""
+"""Some of the rules of LANGUAGE.md that can be read off the package's files without running them."""
 
 import ast
 import builtins
