@@ -3,6 +3,7 @@
 DONE = 0
 WRONG = -1
 TWICE = -2
+NO_FILLING = -3
 NO_SQUARE = -4
 NO_ROOM = -6
 

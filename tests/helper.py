@@ -22,6 +22,26 @@ def cells(room=1048576):
     return [5, room]
 
 
+def count(most=1000000):
+    return [6, most]
+
+
+def tell(k, room=1048576):
+    return [7, k, room]
+
+
+def may(room=1048576):
+    return [8, room]
+
+
+def spare(room=1048576):
+    return [9, room]
+
+
+def steps(room=1048576):
+    return [10, room]
+
+
 def rows_as_regions(n):
     """Regions that add nothing to the rows."""
     return [cell // n for cell in range(n * n)]
@@ -38,6 +58,16 @@ def blank(n, **digits):
     for name, digit in digits.items():
         made[(int(name[1]) - 1) * n + int(name[3]) - 1] = digit
     return made
+
+
+def drawn(*rows):
+    """Cells from rows of signs, a point for each cell that is not given."""
+    return [0 if sign == "." else int(sign) for row in rows for sign in row]
+
+
+def cyclic(n):
+    """Regions that have one cell in each row and column."""
+    return [(cell // n + cell % n) % n for cell in range(n * n)]
 
 
 def joined(calls):
@@ -67,5 +97,10 @@ def last(*calls):
 
 
 def told(made):
-    """How sq_cells answers these cells."""
+    """How these bytes are answered."""
     return [len(made)] + made
+
+
+def told_lines(*lines):
+    """How these lines are answered."""
+    return told([ord(sign) for line in lines for sign in line + "\n"])

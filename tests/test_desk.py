@@ -3,7 +3,7 @@
 import unittest
 
 from squaresteps.desk import answers
-from tests.helper import START, blank, boxes, cells, give, joined, load, put
+from tests.helper import START, blank, boxes, cells, count, give, joined, load, may, put, spare, steps, tell
 
 MIXED = joined([
     START,
@@ -19,6 +19,32 @@ MIXED = joined([
     give(3, 1, 1),
     load([]),
     cells(-1),
+    count(1),
+    count(1000),
+    tell(0, 4),
+    tell(0, 3),
+    tell(1, 4),
+    may(8),
+    spare(4),
+    steps(1000),
+    give(2, 2, 0),
+    give(2, 1, 0),
+    give(1, 2, 0),
+    count(1),
+    count(1000),
+    tell(1, 4),
+    tell(2, 4),
+    may(8),
+    may(7),
+    spare(4),
+    steps(6),
+    steps(5),
+    START,
+    count(1),
+    tell(0, 4),
+    may(8),
+    spare(4),
+    steps(6),
 ])
 
 MIXED_ANSWERS = [
@@ -35,6 +61,32 @@ MIXED_ANSWERS = [
     1, -1,
     1, -1,
     1, -1,
+    1, 1,
+    1, 1,
+    5, 4, 1, 2, 2, 1,
+    1, -6,
+    1, -3,
+    9, 8, 1, 0, 2, 0, 2, 0, 1, 0,
+    5, 4, 0, 1, 1, 1,
+    19, 18, 114, 49, 99, 49, 61, 49, 32, 97, 108, 111, 110, 101, 10, 100, 111, 110, 101, 10,
+    1, 0,
+    1, 0,
+    1, 0,
+    1, 1,
+    1, 2,
+    5, 4, 2, 1, 1, 2,
+    1, -3,
+    9, 8, 3, 0, 3, 0, 3, 0, 3, 0,
+    1, -6,
+    1, -3,
+    7, 6, 115, 116, 117, 99, 107, 10,
+    1, -6,
+    1, 0,
+    1, -4,
+    1, -4,
+    1, -4,
+    1, -4,
+    1, -4,
 ]
 
 
@@ -94,9 +146,20 @@ class DeskTest(unittest.TestCase):
         calls = joined([START, square] + [load([0] * 81), cells()] * 149)
         self.assertEqual(answers(calls), [1, 0, 1, 0] + ([1, 0, 82, 81] + [0] * 81) * 149)
 
+    def test_many_questions_about_one_square(self):
+        square = put(9, 0, boxes(9, 3, 3))
+        questions = [count(1000000), tell(1000, 81), may(162), spare(81), steps(6), cells(81)] * 49
+        told = answers(joined([START, square, give(5, 5, 5)] + questions))
+        self.assertEqual(told[:6], [1, 0, 1, 0, 1, 0])
+        each = told[6:6 + len(told[6:]) // 49]
+        self.assertEqual(told[6:], each * 49)
+        self.assertEqual(each[:4], [1, 1000000, 82, 81])
+        self.assertEqual(each[-91:-81], [7, 6, 115, 116, 117, 99, 107, 10, 82, 81])
+
     def test_a_number_that_no_call_has(self):
-        with self.assertRaises(ValueError):
-            answers([1, 11])
+        for number in (-1, 0, 11):
+            with self.assertRaises(ValueError):
+                answers([1, number])
 
 
 if __name__ == "__main__":

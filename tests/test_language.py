@@ -101,6 +101,43 @@ class TreeTest(unittest.TestCase):
         for where, node in each(ast.Attribute):
             self.assertRegex(node.attr, PLAIN, where)
 
+    def test_no_name_is_a_method_here_and_a_value_there(self):
+        inside = [statement for where, node in each(ast.ClassDef) for statement in node.body]
+        methods = {statement.name for statement in inside if isinstance(statement, ast.FunctionDef)}
+        values = {node.attr for where, node in each(ast.Attribute) if isinstance(node.ctx, ast.Store)}
+        self.assertEqual(methods & values, set())
+        for kind in (str, int, list, tuple, dict, set, bytes):
+            self.assertEqual((methods | values) & set(dir(kind)), {"__init__"})
+
+    def test_no_local_is_called_like_a_class_or_an_import(self):
+        for name, text in texts().items():
+            tree = ast.parse(text)
+            above = {node.name for node in tree.body if isinstance(node, (ast.ClassDef, ast.FunctionDef))}
+            above |= {alias.name for node in tree.body if isinstance(node, ast.ImportFrom) for alias in node.names}
+            names = [node for node in ast.walk(tree) if isinstance(node, ast.Name)]
+            bound = {node.id for node in names if isinstance(node.ctx, ast.Store)}
+            bound |= {node.arg for node in ast.walk(tree) if isinstance(node, ast.arg)}
+            self.assertEqual(above & bound, set(), name)
+
+    def test_what_is_walked_is_not_kept(self):
+        walked = {"zip", "enumerate", "reversed", "range"}
+        for where, node in each(ast.Assign, ast.Return):
+            if isinstance(node.value, ast.Call) and isinstance(node.value.func, ast.Name):
+                self.assertNotIn(node.value.func.id, walked, where)
+
+    def test_no_file_draws_from_one_that_draws_from_it(self):
+        drawn = {}
+        for where, node in each(ast.ImportFrom):
+            drawn.setdefault(where.split(".")[0], set()).add(node.module.split(".")[1])
+        for name in drawn:
+            reached = set()
+            left = set(drawn[name])
+            while left:
+                other = left.pop()
+                reached.add(other)
+                left |= drawn.get(other, set()) - reached
+            self.assertNotIn(name, reached)
+
     def test_targets_values_and_loops(self):
         for where, node in each(ast.Assign):
             self.assertEqual(len(node.targets), 1, where)

@@ -2,7 +2,7 @@
 
 import unittest
 
-from tests.helper import START, blank, boxes, cells, give, load, put, run
+from tests.helper import START, blank, boxes, cells, count, give, load, may, put, run, spare, steps, tell
 
 
 class NoSquareFirstTest(unittest.TestCase):
@@ -17,6 +17,26 @@ class NoSquareFirstTest(unittest.TestCase):
         cells(-1),
         cells(0),
         cells(1048577),
+        count(0),
+        count(1),
+        count(1000001),
+        tell(-1),
+        tell(0),
+        tell(0, 0),
+        tell(0, -1),
+        tell(1000001, 1048577),
+        may(-1),
+        may(0),
+        may(1048576),
+        may(1048577),
+        spare(-1),
+        spare(0),
+        spare(1048576),
+        spare(1048577),
+        steps(-1),
+        steps(0),
+        steps(1048576),
+        steps(1048577),
     )
 
     def test_new_object(self):

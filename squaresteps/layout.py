@@ -1,0 +1,27 @@
+"""The units of a square as sets of cells, and which cells they link."""
+
+from squaresteps.twins import sets_with_twins
+
+
+class Layout:
+    def __init__(self, n, unit_sets):
+        self.n = n
+        self.every_cell = (1 << (n * n)) - 1
+        self.unit_sets = unit_sets
+        # Of each cell, as a set of its own: the cells that are not linked with it, itself among them.
+        self.unlinked = {}
+        for cell in range(n * n):
+            self.unlinked[1 << cell] = self.every_cell & ~linked_cells(1 << cell, unit_sets)
+
+
+def layout_with_twins(layout):
+    """A layout with the same fillings, whose contradictions show earlier."""
+    return Layout(layout.n, sets_with_twins(layout.n, layout.unit_sets))
+
+
+def linked_cells(cell, unit_sets):
+    linked = 0
+    for unit in unit_sets:
+        if unit & cell != 0:
+            linked |= unit
+    return linked & ~cell
