@@ -3,6 +3,8 @@
 import random
 import unittest
 
+from squaresteps.square import Square
+from squaresteps.twins import twins_among
 from tests.helper import boxes, cells, count, last, load, may, put, rows_as_regions, run, spare, tell, told
 
 
@@ -49,7 +51,7 @@ class BruteForceTest(unittest.TestCase):
         # The same squares each time, by the seed.
         source = random.Random(20261116)
         sorts = {"none": 0, "one": 0, "more": 0}
-        for trial in range(250):
+        for trial in range(600):
             n = source.choice((2, 3, 4, 4, 4, 5))
             diagonals = source.randrange(2)
             region = self.some_region(source, n)
@@ -79,15 +81,25 @@ class BruteForceTest(unittest.TestCase):
     def check(self, n, diagonals, region, givens, linked):
         found = fillings(n, linked, givens)
         square = (put(n, diagonals, region), load(givens))
-        answered = run(*square, count(), count(2), may(), spare(), cells())[2:]
-        self.assertEqual(answered[0], [min(len(found), 1000000)])
-        self.assertEqual(answered[1], [min(len(found), 2)])
-        self.assertEqual(answered[2], self.what_may_stand(found, n))
-        self.assertEqual(answered[3], self.what_can_be_spared(found, n, linked, givens))
-        self.assertEqual(answered[4], told(givens))
+        expected = [
+            self.what_may_stand(found, n),
+            self.what_can_be_spared(found, n, linked, givens),
+            [min(len(found), 2)],
+            [len(found)],
+            told(givens),
+        ]
+        # What was found out for one answer must not spoil another.
+        answered = run(*square, *[may(), spare(), count(2), count(), cells()] * 2)[2:]
+        self.assertEqual(answered, expected * 2)
+        self.check_twins(n, diagonals, region, found)
         for k in {0, 1, len(found) // 3, len(found) // 2, len(found) - 1, len(found)} - {-1}:
             self.assertEqual(last(*square, tell(k)), told(found[k]) if k < len(found) else [-3])
         return len(found)
+
+    def check_twins(self, n, diagonals, region, found):
+        for twins in twins_among(n, Square(n, diagonals, region).layout.unit_sets):
+            for filling in found:
+                self.assertEqual(len({filling[cell] for cell in twins}), 1)
 
     def what_may_stand(self, found, n):
         if len(found) == 0:

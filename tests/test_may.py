@@ -2,7 +2,8 @@
 
 import unittest
 
-from tests.helper import blank, boxes, cells, count, cyclic, drawn, last, load, may, put, rows_as_regions, run, told
+from tests.helper import blank, boxes, cells, count, cyclic, drawn, last, load, may, put, rows_as_regions, run, spare
+from tests.helper import tell, told
 
 LOWEST = -2147483648
 HIGHEST = 2147483647
@@ -29,6 +30,21 @@ class MayTest(unittest.TestCase):
     def test_one_filling(self):
         one = load(drawn("1...", "..3.", ".4..", "...2"))
         self.assertEqual(last(self.square, one, may()), two_bytes(*"1324423124133142"))
+
+    def test_one_filling_that_singles_do_not_find(self):
+        hard = drawn(
+            "8........", "..36.....", ".7..9.2..", ".5...7...", "....457..", "...1...3.", "..1....68", "..85...1.",
+            ".9....4..",
+        )
+        square = (put(9, 0, boxes(9, 3, 3)), load(hard))
+        filling = last(*square, tell(0))[1:]
+        expected = two_bytes(*[str(digit) for digit in filling])
+        self.assertEqual(last(*square, may()), expected)
+        self.assertEqual(run(*square, count(), may(), count(), may())[2:], [[1], expected, [1], expected])
+        self.assertEqual(run(*square, spare(), may(), count())[2:], [told([0] * 81), expected, [1]])
+
+    def test_no_filling_found_out_twice(self):
+        self.assertEqual(run(put(6, 0, cyclic(6)), may(), count(), may(), tell(0))[1:], [[-3], [0], [-3], [-3]])
 
     def test_written_out(self):
         answer = [8, 1, 0, 2, 0, 2, 0, 1, 0]
