@@ -5,10 +5,14 @@ A branch is a digit, a cell, and how many digits would do there alike.
 
 
 def branches_of(board):
+    # The diagonals hang on all else: left to the end, they would bring most parts to nothing.
+    crowded = board.open_cells & board.layout.crowded
+    if crowded != 0:
+        return branches_at(board, narrowest_cell(board, crowded))
     pairs = cells_with_two(board)
     if pairs != 0:
         return branches_at(board, pairs & -pairs)
-    return two_places(board) or branches_at(board, narrowest_cell(board))
+    return two_places(board) or branches_at(board, narrowest_cell(board, board.open_cells))
 
 
 def cells_with_two(board):
@@ -42,10 +46,10 @@ def two_places(board):
     return []
 
 
-def narrowest_cell(board):
+def narrowest_cell(board, cells):
     narrowest = 0
     fewest = board.layout.n + 1
-    left = board.open_cells
+    left = cells
     while left != 0:
         cell = left & -left
         left ^= cell

@@ -1,7 +1,6 @@
 """A square: its size, its units, and what is given in it."""
 
-from squaresteps.bits import bits_of
-from squaresteps.layout import Layout
+from squaresteps.layout import layout_of
 from squaresteps.search import Search
 from squaresteps.units import some_digit_twice
 from squaresteps.units import units_of
@@ -21,7 +20,7 @@ class Square:
         self.n = n
         self.units = units_of(n, diagonals, region)
         self.givens = [0] * (n * n)
-        self.layout = Layout(n, [bits_of(unit) for unit in self.units])
+        self.layout = layout_of(n, self.units)
         self.search = Search(self.layout)
 
     def has_place(self, row, column):
